@@ -187,7 +187,7 @@ func TestOpenWhichSector(t *testing.T) {
 	}
 }
 
-// wrongSectors are not right in the sector 1, each for one reason only.
+// wrongSectors are not right in the sector 1, most of them for one reason only: what else is asked of a sector they have.
 func wrongSectors() map[string][]byte {
 	right := written(7, 1, "x")
 	low, high := binary.LittleEndian.AppendUint32, binary.BigEndian.AppendUint32
