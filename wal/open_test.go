@@ -317,6 +317,7 @@ func TestOpenLastIndex(t *testing.T) {
 		{"over two segments", [][]byte{written(two62-2, "a"), written(two62-1, "b")}, api.OK},
 		{"one more, over two", [][]byte{written(two62-2, "a", "b"), written(two62, "c")}, api.ErrWalForm},
 		{"cut, and no more", [][]byte{written(two62-2, "a", "b"), written(two62-1, "c")}, api.OK},
+		{"one more, which a further one would let go", [][]byte{written(two62-1, "a", "b"), written(5, "c")}, api.ErrWalForm},
 		{"none behind the last one", [][]byte{written(two62-1, "a"), written(two62)}, api.OK},
 	} {
 		d := disk.New(9)
