@@ -112,21 +112,21 @@ func wantNotWorse(t *testing.T, l, selected []api.Match) {
 	}
 }
 
-// wantSame holds Select and a keeper, after each Add, against the models.
+// wantSame holds Select and a keeper, after each Add, against the models, and both against each other.
 func wantSame(t *testing.T, l []api.Match, k int) {
 	t.Helper()
-	want := modelSelect(l, k)
-	wantSelect(t, l, k, want...)
-	wantNotWorse(t, l, want)
+	selected := Select(l, k)
+	wantSelect(t, l, k, modelSelect(l, k)...)
+	wantNotWorse(t, l, selected)
 	keeper, model := New(k), modelKeeper{room: max(0, min(k, api.MaxBest))}
 	for _, m := range l {
 		wantAdd(t, keeper, m, model.add(m))
 		wantKept(t, keeper, model.list...)
 	}
-	wantTake(t, keeper, model.list...)
-	if !slices.Equal(model.list, want) {
-		t.Errorf("P13.4: a keeper of %d that was given %s keeps %s, and %s are the best", k, show(l...), show(model.list...), show(want...))
+	if taken := keeper.Take(); !slices.Equal(taken, selected) {
+		t.Errorf("P13.4: of %s a keeper of %d keeps %s, Select tells %s", show(l...), k, show(taken...), show(selected...))
 	}
+	wantTake(t, keeper)
 }
 
 // P13.2, P13.3, P13.4: all lists of up to five of some matches, so in each order, for each k.
